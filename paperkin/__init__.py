@@ -1,0 +1,1 @@
+"""Paperkin: questions in a bank made into papers."""

@@ -1,0 +1,65 @@
+"""Names, texts, days and whole numbers, and which things are such."""
+
+from paperkin.errors import BadText, NoPlace
+
+LETTERS = "abcdefghijklmnopqrstuvwxyz"
+MOST_LETTERS = 8
+MOST_SIGNS = 30
+PERCENT = 37
+
+
+def is_number(thing):
+    """Whether a thing is a whole number, however great or small."""
+    return isinstance(thing, int) and not isinstance(thing, bool)
+
+
+def is_whole(thing, least=0, most=9999):
+    """Whether a thing is a whole number from least to most."""
+    return is_number(thing) and least <= thing <= most
+
+
+def is_name(thing):
+    """Whether a thing is a NAME."""
+    if not isinstance(thing, str) or not 1 <= len(thing) <= MOST_LETTERS:
+        return False
+    return all([sign in LETTERS for sign in thing])
+
+
+def is_name_or_empty(thing):
+    """Whether a thing is a NAME or the text without signs."""
+    # The kind is asked for first: a thing of another kind may call itself equal to a text.
+    return is_name(thing) or (isinstance(thing, str) and thing == "")
+
+
+def is_text_sign(sign):
+    """Whether a sign may stand in a TEXT."""
+    return " " <= sign <= "~" and ord(sign) != PERCENT
+
+
+def is_text(thing):
+    """Whether a thing is a TEXT."""
+    if not isinstance(thing, str) or not 1 <= len(thing) <= MOST_SIGNS:
+        return False
+    if thing[0] == " " or thing[-1] == " ":
+        return False
+    return all([is_text_sign(sign) for sign in thing])
+
+
+def need_name(thing):
+    """Refuse what is no NAME."""
+    if not is_name(thing):
+        raise BadText("no name")
+
+
+def need_day(thing):
+    """Refuse what is no DAY."""
+    if not is_whole(thing):
+        raise NoPlace(thing)
+
+
+def squeezed(text):
+    """A text without blanks at its ends, and one where several stand within."""
+    if not isinstance(text, str):
+        raise BadText("no text")
+    # Parted by the blank alone: a line end or a tab is a sign like any other here.
+    return " ".join([word for word in text.split(" ") if word != ""])

@@ -1,0 +1,78 @@
+"""The interface: each name stands in its file, with its arguments and defaults."""
+
+import ast
+import importlib
+import inspect
+import pathlib
+import unittest
+
+PACKAGE = pathlib.Path(__file__).resolve().parent.parent / "paperkin"
+
+CLASSES = {
+    "errors": {
+        "BankError": {}, "BadWish": {"__init__": "(self, at)"}, "BadPaper": {"__init__": "(self, at)"},
+        "BadSheet": {"__init__": "(self, at)"}, "BadLine": {"__init__": "(self, row, word)"}, "Gone": {},
+        "BadQuestion": {"__init__": "(self, part)"}, "BadText": {}, "NoSuch": {"__init__": "(self, name)"},
+        "NoPlace": {"__init__": "(self, at)"}, "TooMany": {"__init__": "(self, most)"},
+        "BadKind": {"__init__": "(self, wanted)"}, "Unmet": {"__init__": "(self, lot, sums)"}, "NoAnswers": {},
+        "Twice": {"__init__": "(self, name)"},
+    },
+    "questions": {
+        "Question": {
+            "__init__": "(self, name, matter, answers, right=0, toil=5, marks=1, kin='')",
+            "answer": "(self)",
+            "turned": "(self, by)",
+            "changed": "(self, right=None, toil=None, marks=None, kin=None)",
+            "is_kin": "(self, other)",
+        },
+    },
+}
+FUNCTIONS = {
+    "words": {
+        "is_whole": "(thing, least=0, most=9999)",
+        "is_name": "(thing)",
+        "is_text": "(thing)",
+        "need_name": "(thing)",
+        "need_day": "(thing)",
+        "squeezed": "(text)",
+    },
+    "questions": {
+        "need_question": "(thing)",
+        "by_toil": "(questions)",
+        "toil_sum": "(questions, start=0)",
+    },
+}
+
+
+def tree_of(name):
+    return ast.parse((PACKAGE / (name + ".py")).read_text())
+
+
+def defined_in(name, kind):
+    return {node.name: node for node in tree_of(name).body if isinstance(node, kind)}
+
+
+class Interface(unittest.TestCase):
+    def test_functions(self):
+        for name, listed in FUNCTIONS.items():
+            module = importlib.import_module("paperkin." + name)
+            defined = defined_in(name, ast.FunctionDef)
+            for function, told in listed.items():
+                self.assertIn(function, defined, name)
+                self.assertEqual(str(inspect.signature(getattr(module, function))), told, function)
+
+    def test_classes_and_their_own_methods(self):
+        for name, listed in CLASSES.items():
+            module = importlib.import_module("paperkin." + name)
+            defined = defined_in(name, ast.ClassDef)
+            for each, methods in listed.items():
+                self.assertIn(each, defined, name)
+                own = [node.name for node in defined[each].body if isinstance(node, ast.FunctionDef)]
+                for method, told in methods.items():
+                    self.assertIn(method, own, each)
+                    found = getattr(getattr(module, each), method)
+                    self.assertEqual(str(inspect.signature(found)), told, each + "." + method)
+
+
+if __name__ == "__main__":
+    unittest.main()
