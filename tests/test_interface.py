@@ -26,6 +26,30 @@ CLASSES = {
             "is_kin": "(self, other)",
         },
     },
+    "banks": {
+        "Bank": {
+            "__init__": "(self, questions=None)",
+            "added": "(self, question)",
+            "put": "(self, question)",
+            "taken_out": "(self, name, why='wrong')",
+            "put_back": "(self, name)",
+            "dropped": "(self, name)",
+            "used_on": "(self, name, day)",
+            "unused_on": "(self, name, day)",
+            "names": "(self)",
+            "names_in": "(self)",
+            "outs": "(self)",
+            "question": "(self, name)",
+            "days_of": "(self, name)",
+            "last_day": "(self, name, day=9999)",
+            "matters": "(self)",
+            "found": "(self, matter='', least=1, most=9, kin='', day=None, rest=0)",
+            "twin": "(self)",
+        },
+    },
+    "wishes": {
+        "Wish": {"__init__": "(self, word, what='', least=0, most=999)", "moved": "(self, by)"},
+    },
 }
 FUNCTIONS = {
     "words": {
@@ -40,6 +64,21 @@ FUNCTIONS = {
         "need_question": "(thing)",
         "by_toil": "(questions)",
         "toil_sum": "(questions, start=0)",
+    },
+    "banks": {"need_bank": "(thing)", "resting": "(bank, day, rest)"},
+    "wishes": {"need_wish": "(thing)", "need_wishes": "(thing)", "wish_of": "(text)"},
+    "papers": {
+        "is_paper": "(thing)",
+        "need_ready": "(bank, paper)",
+        "paper_of": "(names)",
+        "questions_of": "(bank, paper)",
+        "shared": "(one, other)",
+    },
+    "sums": {
+        "sum_by": "(bank, paper, wish, day=0)",
+        "meets": "(bank, paper, wish, day=0)",
+        "lacking": "(bank, paper, wishes, day=0)",
+        "sums_of": "(bank, paper, wishes, day=0)",
     },
 }
 

@@ -10,6 +10,12 @@ def a_question(name="adds", matter="sums", toil=5, marks=1, kin="", right=0, ans
     return Question(name, matter, answers, right, toil, marks, kin)
 
 
+def some_names(many):
+    """So many rising names."""
+    letters = "abcdefghijklmnopqrstuvwxyz"
+    return [one + other for one in letters for other in letters][:many]
+
+
 class Stranger:
     """A thing of a kind that the program doesn't know."""
 

@@ -1,0 +1,109 @@
+"""Wishes that papers meet or don't."""
+
+from paperkin.errors import BadKind, BadWish
+from paperkin.words import is_name, is_name_or_empty, is_number, is_whole, squeezed
+
+WORDS = ("many", "toil", "marks", "rest", "kin", "with")
+WORDS_OF_THE_WHOLE = ("many", "toil", "marks")
+FIGURES = "0123456789"
+MOST = 999
+MOST_FIGURES = 3
+MOST_WISHES = 12
+
+
+class Wish:
+    """A word, what it is of, and the least and most that are wished for."""
+
+    def __init__(self, word, what="", least=0, most=999):
+        if not isinstance(word, str) or word not in WORDS:
+            raise BadWish("word")
+        if not can_be_of(word, what):
+            raise BadWish("what")
+        if not is_whole(least, 0, MOST):
+            raise BadWish("least")
+        # The least of rest is a number of days, to which its most, a number of questions, isn't bound.
+        if not is_whole(most, 0 if word == "rest" else least, MOST):
+            raise BadWish("most")
+        self.word = word
+        self.what = what
+        self.least = least
+        self.most = most
+
+    def __eq__(self, other):
+        return (
+            isinstance(other, Wish)
+            and self.word == other.word
+            and self.what == other.what
+            and self.least == other.least
+            and self.most == other.most
+        )
+
+    def __len__(self):
+        if self.what == "" and self.word in WORDS_OF_THE_WHOLE:
+            return 2
+        return 1
+
+    def __str__(self):
+        if self.what == "":
+            return f"{self.word} {self.least} {self.most}"
+        return f"{self.word} {self.what} {self.least} {self.most}"
+
+    def __repr__(self):
+        return f"Wish({self!s})"
+
+    def moved(self, by):
+        """A wish whose least and most are more by a number, cut to their bounds."""
+        if not is_number(by):
+            raise BadKind("number")
+        return Wish(self.word, self.what, cut(self.least + by), cut(self.most + by))
+
+
+def can_be_of(word, what):
+    """Whether a wish of that word can be of that what."""
+    if word == "with":
+        return is_name(what)
+    if word == "rest":
+        return isinstance(what, str) and what == ""
+    return is_name_or_empty(what)
+
+
+def cut(number):
+    """A number, or the bound beyond which it is."""
+    return max(0, min(MOST, number))
+
+
+def need_wish(thing):
+    """Refuse what is no Wish."""
+    if not isinstance(thing, Wish):
+        raise BadKind("Wish")
+
+
+def need_wishes(thing):
+    """Refuse what are no WISHES."""
+    if not isinstance(thing, (list, tuple)):
+        raise BadKind("list")
+    for number, each in enumerate(thing):
+        if number >= MOST_WISHES or not isinstance(each, Wish):
+            raise BadWish(number)
+
+
+def number_of(word):
+    """The number that a word is by its figures, or None, by which a wish is refused."""
+    # More figures can only be a number beyond the bounds, or too long a one to be read.
+    if not 1 <= len(word) <= MOST_FIGURES:
+        return None
+    if not all([sign in FIGURES for sign in word]):
+        return None
+    if word[0] == "0" and word != "0":
+        return None
+    return int(word)
+
+
+def wish_of(text):
+    """The wish that is written as a text."""
+    words = squeezed(text).split(" ")
+    if len(words) == 3:
+        words = [words[0], "", words[1], words[2]]
+    if len(words) != 4:
+        raise BadWish("word")
+    return Wish(words[0], words[1], number_of(words[2]), number_of(words[3]))
