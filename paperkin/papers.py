@@ -1,10 +1,15 @@
-"""Papers: rising tuples of names of questions."""
+"""Papers: rising tuples of names of questions, and what they are looked for by."""
 
 from paperkin.banks import need_bank
-from paperkin.errors import BadPaper
-from paperkin.words import is_name
+from paperkin.errors import BadKind, BadPaper, NoPlace, TooMany
+from paperkin.wishes import need_wishes
+from paperkin.words import is_name, is_whole, need_day
 
 MOST_NAMES = 40
+LEAST_SIZE = 1
+MOST_IN = 14
+LEAST_ROW_SIZE = 2
+MOST_ROW_IN = 12
 
 
 def are_names(thing):
@@ -58,3 +63,64 @@ def shared(one, other):
     need_paper(one)
     need_paper(other)
     return [name for name in one if name in other]
+
+
+def need_looked_for(bank, wishes, size, day, least, most):
+    """Refuse what no papers can be looked for by, their size from least to most."""
+    need_bank(bank)
+    need_wishes(wishes)
+    if not is_whole(size, least, most):
+        raise NoPlace(size)
+    need_day(day)
+
+
+def need_few_in(bank, most):
+    """Refuse a bank of which more questions are IN than can be looked through."""
+    if len(bank) > most:
+        raise TooMany(most)
+
+
+def need_making(bank, wishes, size, day):
+    """Refuse what papers can't be made by."""
+    need_looked_for(bank, wishes, size, day, LEAST_SIZE, MOST_IN)
+    need_few_in(bank, MOST_IN)
+
+
+def need_aside(bank, aside):
+    """Refuse what can't be ASIDE."""
+    if aside is None:
+        return
+    if not isinstance(aside, (list, tuple)):
+        raise BadKind("list")
+    for name in aside:
+        bank.need_known(name)
+
+
+def need_row_making(bank, wishes, size, day, aside):
+    """Refuse what rows of papers can't be made by."""
+    need_looked_for(bank, wishes, size, day, LEAST_ROW_SIZE, MOST_ROW_IN)
+    need_aside(bank, aside)
+    need_few_in(bank, MOST_ROW_IN)
+
+
+def papers_among(names, size):
+    """All rising tuples of so many of some rising names, in the order of tuples."""
+    papers = [(name,) for name in names]
+    for more in range(size - 1):
+        papers = [paper + (name,) for paper in papers for name in names if paper[-1] < name]
+    return papers
+
+
+def names_without(names, others):
+    """Some names, in a tuple, but for those that stand among others."""
+    return tuple([name for name in names if name not in others])
+
+
+def names_not_aside(bank, aside):
+    """The names IN that aren't ASIDE, rising, in a tuple."""
+    return names_without(bank.names_in(), () if aside is None else aside)
+
+
+def papers_without(papers, names):
+    """Those of some papers that have none of these names."""
+    return [paper for paper in papers if all([name not in names for name in paper])]

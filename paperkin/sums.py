@@ -2,40 +2,54 @@
 
 from paperkin.banks import rests_on
 from paperkin.papers import need_ready
-from paperkin.questions import toil_sum
 from paperkin.wishes import need_wish, need_wishes
 from paperkin.words import need_day
 
 
-def sum_of_matter(questions, word, matter):
-    """How many questions there are of a matter, or their toil or marks together."""
-    chosen = [question for question in questions if matter in ("", question.matter)]
-    if word == "many":
-        return len(chosen)
-    if word == "toil":
-        return toil_sum(chosen)
-    return sum([question.marks for question in chosen])
+def worth_of(bank, name, wish, day):
+    """What one question gives to the SUM of a wish that isn't of kin."""
+    if wish.word == "with":
+        return 1 if name == wish.what else 0
+    if wish.word == "rest":
+        return 1 if rests_on(bank, name, day, wish.least) else 0
+    question = bank.question(name)
+    if wish.what not in ("", question.matter):
+        return 0
+    if wish.word == "many":
+        return 1
+    return question.toil if wish.word == "toil" else question.marks
 
 
-def kin_pairs(questions, kin):
-    """How many pairs of questions are kin, of that kin or of any."""
-    many = 0
-    for at, one in enumerate(questions):
-        if kin in ("", one.kin):
-            many += len([other for other in questions[at + 1:] if one.is_kin(other)])
-    return many
+def counted_kin(question, kin):
+    """The kin of a question, or "" where only another one is counted."""
+    return question.kin if kin in ("", question.kin) else ""
+
+
+def kin_pairs(kins):
+    """How many pairs of kins are alike, "" aside."""
+    told = [kin for kin in kins if kin != ""]
+    # Each pair is met twice, once from either side.
+    return sum([told.count(kin) - 1 for kin in told]) // 2
+
+
+def sums_among(bank, names, papers, wish, day):
+    """The SUM of each of some papers, all of these names, by one wish."""
+    # Each question is asked once, however many papers have it.
+    if wish.word == "kin":
+        kins = {name: counted_kin(bank.question(name), wish.what) for name in names}
+        return [kin_pairs([kins[name] for name in paper]) for paper in papers]
+    worths = {name: worth_of(bank, name, wish, day) for name in names}
+    return [sum([worths[name] for name in paper]) for paper in papers]
+
+
+def sum_table(bank, wishes, papers, day):
+    """For each wish the SUMS of some READY papers, in their order."""
+    return [sums_among(bank, bank.names_in(), papers, wish, day) for wish in wishes]
 
 
 def sum_on(bank, paper, wish, day):
     """The SUM of what is known to be handed in rightly."""
-    if wish.word == "with":
-        return 1 if wish.what in paper else 0
-    if wish.word == "rest":
-        return len([name for name in paper if rests_on(bank, name, day, wish.least)])
-    questions = [bank.question(name) for name in paper]
-    if wish.word == "kin":
-        return kin_pairs(questions, wish.what)
-    return sum_of_matter(questions, wish.word, wish.what)
+    return sums_among(bank, paper, [paper], wish, day)[0]
 
 
 def is_met(wish, total):

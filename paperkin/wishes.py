@@ -87,6 +87,13 @@ def need_wishes(thing):
             raise BadWish(number)
 
 
+def are_numbers(thing, many):
+    """Whether a thing is a rising tuple of numbers of so many wishes."""
+    if not isinstance(thing, tuple) or not all([is_whole(each, 0, many - 1) for each in thing]):
+        return False
+    return all([one < other for one, other in zip(thing, thing[1:])])
+
+
 def number_of(word):
     """The number that a word is by its figures, or None, by which a wish is refused."""
     # More figures can only be a number beyond the bounds, or too long a one to be read.

@@ -80,7 +80,27 @@ FUNCTIONS = {
         "lacking": "(bank, paper, wishes, day=0)",
         "sums_of": "(bank, paper, wishes, day=0)",
     },
+    "making": {
+        "fit_papers": "(bank, wishes, size, day=0)",
+        "first_paper": "(bank, wishes, size, day=0)",
+        "best_paper": "(bank, wishes, size, day=0, key=None)",
+    },
+    "lots": {
+        "least_lot": "(bank, wishes, size, day=0)",
+        "all_lots": "(bank, wishes, size, day=0)",
+        "lot_sums": "(bank, wishes, size, lot, day=0)",
+        "in_the_way": "(bank, wishes, size, day=0)",
+    },
+    "lotcheck": {"check_lot": "(bank, wishes, size, lot, sums, day=0)"},
+    "rows": {
+        "most_row": "(bank, wishes, size, day=0, aside=None)",
+        "scarce_names": "(bank, wishes, size, day=0, aside=None)",
+        "are_apart": "(papers)",
+        "left_over": "(bank, papers)",
+    },
 }
+# What a file must do without, also by way of the files that it needs.
+NOT_NEEDED = {"lotcheck": ("making", "lots")}
 
 
 def tree_of(name):
@@ -91,7 +111,21 @@ def defined_in(name, kind):
     return {node.name: node for node in tree_of(name).body if isinstance(node, kind)}
 
 
+def needed_by(name):
+    """The files that a file needs, also by way of others."""
+    found = set()
+    for node in ast.walk(tree_of(name)):
+        if isinstance(node, ast.ImportFrom):
+            other = node.module.split(".")[1]
+            found |= {other} | needed_by(other)
+    return found
+
+
 class Interface(unittest.TestCase):
+    def test_files_that_need_no_other_of_their_stage(self):
+        for name, others in NOT_NEEDED.items():
+            self.assertEqual(needed_by(name) & set(others), set(), name)
+
     def test_functions(self):
         for name, listed in FUNCTIONS.items():
             module = importlib.import_module("paperkin." + name)
