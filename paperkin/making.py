@@ -2,7 +2,9 @@
 
 from paperkin.errors import Unmet
 from paperkin.lots import least_with_sums
-from paperkin.papers import need_making, papers_among, questions_of
+from paperkin.papers import (
+    aside_names, names_without, need_making, need_row_making, papers_among, papers_without, questions_of,
+)
 from paperkin.questions import toil_sum
 from paperkin.sums import is_met, sums_among
 
@@ -40,3 +42,10 @@ def best_paper(bank, wishes, size, day=0, key=None):
     lists = [questions_of(bank, paper) for paper in papers]
     told = [asked(questions) for questions in lists]
     return papers[told.index(min(told))]
+
+
+def names_and_fits(bank, wishes, size, day, aside):
+    """What rows are made of: the names IN that aren't ASIDE, rising, and the FIT papers within them."""
+    need_row_making(bank, wishes, size, day, aside)
+    gone = aside_names(aside)
+    return names_without(bank.names_in(), gone), papers_without(fit_papers(bank, wishes, size, day), gone)

@@ -96,6 +96,11 @@ def need_aside(bank, aside):
         bank.need_known(name)
 
 
+def aside_names(aside):
+    """The names that are ASIDE, in a tuple."""
+    return () if aside is None else tuple(aside)
+
+
 def need_row_making(bank, wishes, size, day, aside):
     """Refuse what rows of papers can't be made by."""
     need_looked_for(bank, wishes, size, day, LEAST_ROW_SIZE, MOST_ROW_IN)
@@ -114,11 +119,6 @@ def papers_among(names, size):
 def names_without(names, others):
     """Some names, in a tuple, but for those that stand among others."""
     return tuple([name for name in names if name not in others])
-
-
-def names_not_aside(bank, aside):
-    """The names IN that aren't ASIDE, rising, in a tuple."""
-    return names_without(bank.names_in(), () if aside is None else aside)
 
 
 def papers_without(papers, names):

@@ -2,8 +2,8 @@
 
 from paperkin.banks import need_bank
 from paperkin.errors import BadPaper
-from paperkin.making import fit_papers
-from paperkin.papers import is_paper, names_not_aside, need_row_making, names_without, papers_without
+from paperkin.making import names_and_fits
+from paperkin.papers import is_paper, names_without, papers_without
 
 
 def papers_with(fits, name):
@@ -67,14 +67,6 @@ def row_among(names, fits):
             left = names_without(left, paper)
             within = papers_without(within, paper)
     return row
-
-
-def names_and_fits(bank, wishes, size, day, aside):
-    """The names IN that aren't ASIDE, and the FIT papers within them."""
-    need_row_making(bank, wishes, size, day, aside)
-    names = names_not_aside(bank, aside)
-    fits = fit_papers(bank, wishes, size, day)
-    return names, papers_without(fits, names_without(bank.names_in(), names))
 
 
 def most_row(bank, wishes, size, day=0, aside=None):

@@ -100,3 +100,40 @@ def ground(names, papers, size, many):
         if names[0] in paper:
             told.append((paper, ground(*without(paper), size, many - 1)))
     return ("by", names[0], ground(*without(names[:1]), size, many), tuple(told))
+
+
+def by_everywhere(names, papers, size, many):
+    """A ground that has "by" wherever that is one; papers are the fit ones within names, many as can be taken."""
+    if not names:
+        return ("few",)
+
+    def without(gone):
+        return [name for name in names if name not in gone], [each for each in papers if not set(each) & set(gone)]
+    told = [(paper, by_everywhere(*without(paper), size, many - 1)) for paper in papers if names[0] in paper]
+    return ("by", names[0], by_everywhere(*without(names[:1]), size, many), tuple(told))
+
+
+def is_ground(thing, names, papers, size, many):
+    """Whether a thing is a ground, by the words of the document."""
+    if type(thing) is not tuple or not thing or type(thing[0]) is not str:
+        return False
+    if len(thing) == 1:
+        return (thing[0] == "few" and len(names) < (many + 1) * size) or (thing[0] == "none" and not papers)
+    if thing[0] != "by" or len(thing) != 4 or not names or type(thing[1]) is not str or thing[1] != names[0]:
+        return False
+
+    def without(gone):
+        return [name for name in names if name not in gone], [each for each in papers if not set(each) & set(gone)]
+    due = [paper for paper in papers if names[0] in paper]
+    if many == 0 and due or type(thing[3]) is not tuple or len(thing[3]) != len(due):
+        return False
+    if not is_ground(thing[2], *without(names[:1]), size, many):
+        return False
+    for pair, paper in zip(thing[3], due):
+        if type(pair) is not tuple or len(pair) != 2 or type(pair[0]) is not tuple:
+            return False
+        if any(type(name) is not str for name in pair[0]) or pair[0] != paper:
+            return False
+        if not is_ground(pair[1], *without(paper), size, many - 1):
+            return False
+    return True

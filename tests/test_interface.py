@@ -50,6 +50,20 @@ CLASSES = {
     "wishes": {
         "Wish": {"__init__": "(self, word, what='', least=0, most=999)", "moved": "(self, by)"},
     },
+    "shelves": {
+        "Shelf": {
+            "__init__": "(self, bank, wishes, size, day=0)",
+            "takes_paper": "(self, paper=None)",
+            "takes_row": "(self)",
+            "gives_back": "(self, paper)",
+            "taken_now": "(self)",
+            "names_left": "(self)",
+            "row_more": "(self)",
+            "proof_more": "(self)",
+            "lost_by": "(self, paper)",
+            "shelf_twin": "(self)",
+        },
+    },
 }
 FUNCTIONS = {
     "words": {
@@ -98,9 +112,11 @@ FUNCTIONS = {
         "are_apart": "(papers)",
         "left_over": "(bank, papers)",
     },
+    "rowproof": {"row_proof": "(bank, wishes, size, day=0, aside=None)"},
+    "rowcheck": {"check_row": "(bank, wishes, size, papers, proof, day=0, aside=None)"},
 }
 # What a file must do without, also by way of the files that it needs.
-NOT_NEEDED = {"lotcheck": ("making", "lots")}
+NOT_NEEDED = {"lotcheck": ("making", "lots"), "rowcheck": ("rows", "rowproof", "shelves")}
 
 
 def tree_of(name):

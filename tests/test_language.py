@@ -107,6 +107,13 @@ class Modules(unittest.TestCase):
     def test_no_barred_statement(self):
         self.assertEqual([(name, ast.dump(node)) for name, node in nodes(BARRED_NODES)], [])
 
+    def test_some_builtins_take_a_list_where_a_class_has_its_own_equality(self):
+        for name, node in nodes(ast.Call):
+            if isinstance(node.func, ast.Name) and node.func.id in ("any", "all", "min", "max", "sum", "sorted"):
+                self.assertEqual([each for each in node.args if isinstance(each, ast.GeneratorExp)], [], name)
+            if isinstance(node.func, ast.Attribute):
+                self.assertNotEqual(node.func.attr, "sort", name)
+
     def test_is_stands_with_none_true_and_false(self):
         for name, node in nodes(ast.Compare):
             for sign, right in zip(node.ops, node.comparators):

@@ -4,12 +4,21 @@ import unittest
 
 from paperkin.banks import Bank
 from paperkin.errors import BadKind, BadWish, NoPlace, NoSuch, TooMany
+from paperkin.rowcheck import check_row
+from paperkin.rowproof import row_proof
 from paperkin.rows import most_row, scarce_names
 from paperkin.wishes import Wish
 from tests.things import Alike, Case, a_question, no_texts, no_whole_numbers, plain_bank, some_names, strangers
 from tests.test_rows import a_bank
 
-DEEDS = (most_row, scarce_names)
+
+def check_asked(bank, wishes, size, day=0, aside=None):
+    """check_row of what is no row, which would be refused last."""
+    return check_row(bank, wishes, size, None, None, day, aside)
+
+
+PLAIN = (most_row, scarce_names, row_proof)
+DEEDS = PLAIN + (check_asked,)
 
 
 def bank_of_thirteen():
@@ -17,10 +26,8 @@ def bank_of_thirteen():
 
 
 class Refused(Case):
-    deeds = DEEDS
-
     def each(self, error, value, *told):
-        for deed in self.deeds:
+        for deed in DEEDS:
             self.refused(error, value, deed, *told)
 
     def test_no_bank_first(self):
@@ -71,11 +78,11 @@ class Refused(Case):
             bank.taken_out(name)
         self.each(TooMany, 12, bank, [], 2, 0, bank.names_in())
         bank.taken_out(bank.names_in()[0])
-        for deed in self.deeds:
+        for deed in PLAIN:
             deed(bank, [], 12, 0)
 
     def test_what_lies_on_the_bounds(self):
-        for deed in self.deeds:
+        for deed in PLAIN:
             for day in (0, 9999):
                 deed(plain_bank(some_names(12)), [], 2, day, None)
                 deed(plain_bank(some_names(12)), [Wish("many")] * 12, 12, day, [])
