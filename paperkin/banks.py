@@ -35,7 +35,7 @@ class Bank:
         )
 
     def __len__(self):
-        return len(self.names_in())
+        return len([name for name in self.kept if name not in self.reasons])
 
     def need_known(self, name):
         """Refuse what is no name in the bank."""
@@ -104,6 +104,17 @@ class Bank:
         """The names of those that are in, rising."""
         return [name for name in self.names() if name not in self.reasons]
 
+    def is_in(self, name):
+        """Whether a name is that of a question that is in."""
+        return name in self.kept and name not in self.reasons
+
+    def was_used(self, name, first, last):
+        """Whether a question was used on a day from the first to the last one."""
+        for day in self.days[name]:
+            if first <= day <= last:
+                return True
+        return False
+
     def outs(self):
         """Pairs of a name and a reason of those that are out, rising."""
         return [(name, self.reasons[name]) for name in sorted(list(self.reasons))]
@@ -112,6 +123,10 @@ class Bank:
         """The question of a name."""
         self.need_known(name)
         return self.kept[name]
+
+    def questions_by(self, names):
+        """The questions of names that are known to be in the bank, in their order."""
+        return [self.kept[name] for name in names]
 
     def days_of(self, name):
         """The days on which a question was used, rising."""
@@ -154,8 +169,7 @@ def suits(question, matter, least, most, kin):
 
 def rests_on(bank, name, day, rest):
     """Whether a question of the bank rests on a day."""
-    last = bank.last_day(name, day)
-    return last is not None and day - last < rest
+    return bank.was_used(name, day - rest + 1, day)
 
 
 def need_bank(thing):

@@ -2,18 +2,17 @@
 
 from paperkin.errors import NoPlace
 from paperkin.papers import need_making, papers_among
-from paperkin.sums import is_met, sum_table
+from paperkin.sums import are_met, sum_table
 from paperkin.wishes import are_numbers
 
 
 def met_bits(wishes, table, many):
     """For each of so many candidates a number with a bit for each wish that it meets."""
-    bits = [0] * many
+    met = [0] * many
     for number, wish in enumerate(wishes):
-        for at, total in enumerate(table[number]):
-            if is_met(wish, total):
-                bits[at] += 1 << number
-    return bits
+        one = 1 << number
+        met = [bits + one if fits else bits for bits, fits in zip(met, are_met(wish, table[number]))]
+    return met
 
 
 def looked_through(bank, wishes, size, day):
@@ -29,35 +28,45 @@ def bits_of(numbers):
     return sum([1 << number for number in numbers])
 
 
-def numbers_in(bits, many):
-    """The rising numbers of those of so many wishes whose bits a number has."""
-    return tuple([number for number in range(many) if bits & (1 << number) != 0])
+def numbers_in(bits):
+    """The rising numbers of the bits that a number has."""
+    return tuple([number for number in range(bits.bit_length()) if bits & (1 << number) != 0])
+
+
+def lots_with(number, many):
+    """Of all lots of so many wishes those that have one wish.
+
+    Here and below some lots are one great number: a lot stands in it as the bit whose place is the number with the
+    lot's own bits. So all lots are gone through at once.
+    """
+    step = 1 << number
+    told = ((1 << step) - 1) << step
+    for higher in range(number + 1, many):
+        told += told << (1 << higher)
+    return told
 
 
 def met_together(met, many):
-    """For the bits of any of so many wishes whether some candidate meets all of these."""
-    together = [False] * (1 << many)
-    for bits in met:
-        together[bits] = True
+    """Of all lots of so many wishes those of which some candidate meets all."""
+    together = 0
+    for bits in sorted(set(met)):
+        together |= 1 << bits
     # Who meets some wishes meets them without any one of them, too: so it is handed down wish by wish.
     for number in range(many):
-        for bits in range(1 << many):
-            if bits & (1 << number) != 0 and together[bits]:
-                together[bits - (1 << number)] = True
+        together |= (together & lots_with(number, many)) >> (1 << number)
     return together
-
-
-def is_least(lot, together):
-    """Whether no candidate meets all of a lot, but some all but one, whichever one that is."""
-    bits = bits_of(lot)
-    return not together[bits] and all([together[bits - (1 << number)] for number in lot])
 
 
 def least_lots(met, many):
     """All LOTS of so many wishes of which none can be left out, in order."""
     together = met_together(met, many)
-    chosen = [numbers_in(bits, many) for bits in range(1 << many)]
-    return sorted([lot for lot in chosen if is_least(lot, together)], key=lambda each: (len(each), each))
+    every = (1 << (1 << many)) - 1
+    least = every - together
+    for number in range(many):
+        having = lots_with(number, many)
+        # A lot with this wish stays only if some candidate meets all others of it.
+        least &= (every - having) | ((together << (1 << number)) & having)
+    return sorted([numbers_in(lot) for lot in numbers_in(least)], key=lambda each: (len(each), each))
 
 
 def meet_all(met, numbers):
@@ -104,16 +113,7 @@ def lot_sums(bank, wishes, size, lot, day=0):
     return sums_with(table, met, lot)
 
 
-def is_in_the_way(met, one, other):
-    """Whether some candidates meet the one wish, some the other one, none both."""
-    ones = meet_all(met, [one])
-    others = meet_all(met, [other])
-    return any(ones) and any(others) and not any(meet_all(met, [one, other]))
-
-
 def in_the_way(bank, wishes, size, day=0):
     """The rising pairs of wishes that stand in the way of one another."""
     table, met = looked_through(bank, wishes, size, day)
-    many = len(wishes)
-    pairs = [(one, other) for one in range(many) for other in range(one + 1, many)]
-    return [(one, other) for one, other in pairs if is_in_the_way(met, one, other)]
+    return [lot for lot in least_lots(met, len(wishes)) if len(lot) == 2]

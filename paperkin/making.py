@@ -6,7 +6,7 @@ from paperkin.papers import (
     aside_names, names_without, need_making, need_row_making, papers_among, papers_without, questions_of,
 )
 from paperkin.questions import toil_sum
-from paperkin.sums import is_met, sums_among
+from paperkin.sums import are_met, sums_among
 
 
 def fit_papers(bank, wishes, size, day=0):
@@ -15,8 +15,8 @@ def fit_papers(bank, wishes, size, day=0):
     names = bank.names_in()
     papers = papers_among(names, size)
     for wish in wishes:
-        totals = sums_among(bank, names, papers, wish, day)
-        papers = [paper for paper, total in zip(papers, totals) if is_met(wish, total)]
+        met = are_met(wish, sums_among(bank, names, papers, wish, day))
+        papers = [paper for paper, fits in zip(papers, met) if fits]
     return papers
 
 

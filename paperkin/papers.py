@@ -30,13 +30,27 @@ def need_paper(thing):
         raise BadPaper(None)
 
 
+def is_ready(bank, paper):
+    """Whether a thing is a PAPER that is READY."""
+    if not isinstance(paper, tuple) or not 1 <= len(paper) <= MOST_NAMES:
+        return False
+    ahead = ""
+    for name in paper:
+        # What is in the bank is a NAME: its letters needn't be looked at.
+        if not isinstance(name, str) or name <= ahead or not bank.is_in(name):
+            return False
+        ahead = name
+    return True
+
+
 def need_ready(bank, paper):
     """Refuse a paper that isn't READY."""
     need_bank(bank)
+    if is_ready(bank, paper):
+        return
     need_paper(paper)
-    ready = bank.names_in()
     for name in paper:
-        if name not in ready:
+        if not bank.is_in(name):
             raise BadPaper(name)
 
 
@@ -55,7 +69,7 @@ def paper_of(names):
 def questions_of(bank, paper):
     """The questions of a paper, in its order."""
     need_ready(bank, paper)
-    return [bank.question(name) for name in paper]
+    return bank.questions_by(paper)
 
 
 def shared(one, other):
@@ -108,12 +122,29 @@ def need_row_making(bank, wishes, size, day, aside):
     need_few_in(bank, MOST_ROW_IN)
 
 
+def longer_ends(names, ends):
+    """For each of some rising names all ends of papers that begin with it or one behind it, in order.
+
+    The ends that can stand behind each name are handed in, in the names' order.
+    """
+    told = []
+    longer = []
+    for at in range(len(names) - 1, -1, -1):
+        longer = [(names[at],) + end for end in ends[at]] + longer
+        told.append(longer)
+    return told[::-1]
+
+
 def papers_among(names, size):
     """All rising tuples of so many of some rising names, in the order of tuples."""
-    papers = [(name,) for name in names]
-    for more in range(size - 1):
-        papers = [paper + (name,) for paper in papers for name in names if paper[-1] < name]
-    return papers
+    spare = len(names) - size
+    if spare < 0:
+        return []
+    # From the last place to the first, by the names that leave enough ahead: so each end that is made ends a paper.
+    ends = [[()]] * (spare + 1)
+    for place in range(size - 1, -1, -1):
+        ends = longer_ends(names[place:place + spare + 1], ends)
+    return ends[0]
 
 
 def names_without(names, others):

@@ -22,7 +22,8 @@ def is_name(thing):
     """Whether a thing is a NAME."""
     if not isinstance(thing, str) or not 1 <= len(thing) <= MOST_LETTERS:
         return False
-    return all([sign in LETTERS for sign in thing])
+    # Names are asked for so often that each sign by itself would take too long.
+    return thing.isascii() and thing.isalpha() and thing.islower()
 
 
 def is_name_or_empty(thing):

@@ -5,7 +5,8 @@ import unittest
 from paperkin.banks import Bank
 from paperkin.errors import BadKind, BadPaper
 from paperkin.papers import is_paper, need_ready, paper_of, questions_of, shared
-from tests.things import a_question, no_texts, some_names, strangers
+from paperkin.words import is_name
+from tests.things import Alike, a_question, no_texts, some_names, strangers
 
 NO_PAPERS = (
     (), ("b", "a"), ("a", "a"), ("a", "b", "b"), ("a", "c", "b"), ["a"], ["a", "b"], ("a", ""), ("", "a"), ("A",),
@@ -82,6 +83,15 @@ class Ready(Case):
             for deed in (need_ready, questions_of):
                 self.refused(None, deed, a_bank(), thing)
                 self.refused(None, deed, Bank(), thing)
+
+    def test_of_what_stands_among_names(self):
+        for thing in strangers() + no_texts() + [[], (), ["a"], Alike(), "", "A", "a" * 9]:
+            if is_name(thing):
+                continue
+            for paper in ((thing,), ("a", thing), ("a", "b", thing), (thing, "x"), ("x", thing)):
+                self.refused(None, need_ready, a_bank(), paper)
+        for paper in (("a", "a"), ("c", "a"), ("a", "c", "c"), ("a", "e", "c"), ("x", "x"), ("b", "a")):
+            self.refused(None, need_ready, a_bank(), paper)
 
     def test_of_no_bank(self):
         for thing in strangers() + [[], (), a_question(), [a_bank()]]:

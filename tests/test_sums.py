@@ -6,7 +6,8 @@ from paperkin.banks import Bank
 from paperkin.errors import BadKind, BadPaper, BadWish, NoPlace
 from paperkin.sums import lacking, meets, sum_by, sums_of
 from paperkin.wishes import Wish, wish_of
-from tests.things import a_question, no_whole_numbers, strangers
+from tests import plainly
+from tests.things import a_question, chance, no_whole_numbers, some_bank, some_names, some_wishes, strangers
 
 PAPER = ("adds", "dates", "halves", "kings", "mul", "seas")
 
@@ -201,6 +202,38 @@ class SumsOf(unittest.TestCase):
         told = sums_of(a_bank(), PAPER, [wish_of(text) for text in texts])
         self.assertIsInstance(told, dict)
         self.assertEqual(list(told.items()), [("many sums 0 9", 3), ("toil 0 9", 29), ("marks 0 9", 21)])
+
+
+class AgainstThePlainest(unittest.TestCase):
+    def test_many_banks(self):
+        numbers = chance(21)
+        for _ in range(300):
+            bank = some_bank(numbers, 9)
+            names = bank.names_in()
+            if not names:
+                continue
+            paper = tuple(sorted(numbers.sample(names, numbers.randint(1, len(names)))))
+            wishes = some_wishes(numbers, 12)
+            day = numbers.randint(0, 25)
+            told = [plainly.sum_of(bank, paper, wish, day) for wish in wishes]
+            met = [plainly.meets(bank, paper, wish, day) for wish in wishes]
+            self.assertEqual([sum_by(bank, paper, wish, day) for wish in wishes], told)
+            self.assertEqual([meets(bank, paper, wish, day) for wish in wishes], met)
+            unmet = [(number, total) for number, total in enumerate(told) if not met[number]]
+            self.assertEqual(lacking(bank, paper, wishes, day), unmet)
+            by_text = {str(wish): total for wish, total in zip(wishes, told)}
+            self.assertEqual(list(sums_of(bank, paper, wishes, day).items()), list(by_text.items()))
+
+    def test_forty_questions_used_on_many_days(self):
+        names = some_names(40)
+        bank = Bank([a_question(name, kin="k") for name in names])
+        for name in names[:20]:
+            for day in range(0, 400, 7):
+                bank.used_on(name, day)
+        paper = tuple(names)
+        self.assertEqual(sum_by(bank, paper, Wish("kin")), 780)
+        for day, rest, told in ((100, 2, 0), (100, 3, 20), (5000, 999, 0), (1398, 999, 0), (1397, 999, 20), (0, 1, 20)):
+            self.assertEqual(sum_by(bank, paper, Wish("rest", "", rest), day), told, day)
 
 
 class Refused(unittest.TestCase):

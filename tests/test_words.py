@@ -9,7 +9,7 @@ from tests.things import no_texts, no_whole_numbers
 
 NO_NAMES = (
     "", "abcdefghi", "A", "Ab", "aB", "abC", "a b", " a", "a ", "a1", "1", "a_b", "a-b", "a.", "a\n", "\na", "\n",
-    "a\tb", "{", "`", "a" * 5000, "@", "[", "z{",
+    "a\tb", "{", "`", "a" * 5000, "@", "[", "z{", "ab\xe9", "\xdf", "\xaa", "a\u0101", "\xe9" * 3,
 )
 
 
