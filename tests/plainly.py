@@ -1,4 +1,4 @@
-"""What the document says of papers, lots and rows, done the plainest way: by trying everything."""
+"""What the document says, done the plainest way: by trying everything, and making everything anew."""
 
 import itertools
 
@@ -137,3 +137,36 @@ def is_ground(thing, names, papers, size, many):
         if not is_ground(pair[1], *without(paper), size, many - 1):
             return False
     return True
+
+
+def gains(questions, answers, way, free=()):
+    """What each question gives or takes; those whose names are free count as answered rightly."""
+    def is_right(question, answer):
+        return question.name in free or answer == question.right
+    told = []
+    for question, answer in zip(questions, answers):
+        right = is_right(question, answer)
+        if way == "whole":
+            of_matter = [pair for pair in zip(questions, answers) if pair[0].matter == question.matter]
+            right = all(is_right(*pair) for pair in of_matter)
+        gain = question.marks if right else 0
+        if way == "less" and answer is not None and not right:
+            gain = -(question.marks // 2)
+        told.append((question.name, gain))
+    return told
+
+
+def judged_marks(questions, answers, way, verdicts):
+    """The marks of answers in the paper's order, by the verdicts that hold."""
+    kept, told, free = [], [], []
+    for question, answer in zip(questions, answers):
+        verdict = verdicts.get(question.name)
+        if verdict == ("out",):
+            continue
+        if verdict == ("all",):
+            free.append(question.name)
+        if verdict is not None and verdict[0] == "right":
+            question = question.changed(right=verdict[1])
+        kept.append(question)
+        told.append(answer)
+    return max(0, sum(gain for name, gain in gains(kept, told, way, free)))

@@ -64,6 +64,35 @@ CLASSES = {
             "shelf_twin": "(self)",
         },
     },
+    "copies": {
+        "Copy": {
+            "__init__": "(self, bank, paper, number=0)",
+            "told_names": "(self)",
+            "question_at": "(self, place)",
+            "origin": "(self, place)",
+            "place_of": "(self, name)",
+            "gone_on": "(self, by=1)",
+            "first_one": "(self)",
+        },
+    },
+    "sittings": {
+        "Sitting": {
+            "__init__": "(self, bank, paper, day=0, way='plain')",
+            "handed": "(self, person)",
+            "given": "(self, person, sheet)",
+            "mended": "(self, person, sheet)",
+            "found_wrong": "(self, name, verdict)",
+            "if_wrong": "(self, name, verdict)",
+            "undone": "(self)",
+            "copy_of": "(self, person)",
+            "sheet_by": "(self, person)",
+            "marks_by": "(self, person)",
+            "persons": "(self)",
+            "results": "(self, least=0)",
+            "verdicts": "(self)",
+            "twin": "(self)",
+        },
+    },
 }
 FUNCTIONS = {
     "words": {
@@ -114,6 +143,28 @@ FUNCTIONS = {
     },
     "rowproof": {"row_proof": "(bank, wishes, size, day=0, aside=None)"},
     "rowcheck": {"check_row": "(bank, wishes, size, papers, proof, day=0, aside=None)"},
+    "copies": {
+        "need_copy": "(thing)",
+        "round_length": "(copy)",
+        "meet_at": "(one, other)",
+        "apart_numbers": "(copy, many=2)",
+    },
+    "sheets": {
+        "need_sheet": "(copy, sheet)",
+        "led_back": "(copy, sheet)",
+        "led_on": "(copy, sheet)",
+        "key_sheet": "(copy)",
+        "changed_at": "(copy, sheet, other)",
+        "sheet_text": "(copy, sheet)",
+        "sheet_of": "(copy, text)",
+    },
+    "marking": {
+        "marks_of": "(copy, sheet, way='plain')",
+        "marks_list": "(copy, sheet, way='plain')",
+        "most_marks": "(copy)",
+        "ranked": "(copies, sheets, way='plain')",
+    },
+    "sittings": {"need_sitting": "(thing)"},
 }
 # What a file must do without, also by way of the files that it needs.
 NOT_NEEDED = {"lotcheck": ("making", "lots"), "rowcheck": ("rows", "rowproof", "shelves")}

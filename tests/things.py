@@ -4,7 +4,7 @@ import random
 import unittest
 
 from paperkin.banks import Bank
-from paperkin.errors import BadKind, BadPaper, BadWish, BankError, NoPlace, NoSuch, TooMany
+from paperkin.errors import BadKind, BadPaper, BadSheet, BadWish, BankError, NoPlace, NoSuch, TooMany, Twice
 from paperkin.questions import Question
 from paperkin.wishes import Wish, wish_of
 
@@ -63,7 +63,10 @@ def deep(many):
     return inner
 
 
-FIELDS = {BadKind: "wanted", BadPaper: "at", BadWish: "at", NoPlace: "at", NoSuch: "name", TooMany: "most"}
+FIELDS = {
+    BadKind: "wanted", BadPaper: "at", BadSheet: "at", BadWish: "at", NoPlace: "at", NoSuch: "name", TooMany: "most",
+    Twice: "name",
+}
 
 
 class Alike:
