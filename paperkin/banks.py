@@ -88,6 +88,10 @@ class Bank:
         if day not in self.days[name]:
             self.days[name] = sorted([*self.days[name], day])
 
+    def used_on_all(self, name, days):
+        """Note that a question of the bank was used on some DAYS."""
+        self.days[name] = sorted(set(self.days[name] + list(days)))
+
     def unused_on(self, name, day):
         """Note no longer that a question was used on a day."""
         self.need_known(name)

@@ -1,8 +1,8 @@
 """Sheets: the answers given to a copy, led back to the paper's own order and on from it."""
 
 from paperkin.copies import need_copy
-from paperkin.errors import BadSheet, BadText
-from paperkin.words import LETTERS, is_whole
+from paperkin.errors import BadSheet
+from paperkin.words import LETTERS, is_whole, need_any_text, words_in
 
 NOTHING = "-"
 
@@ -80,10 +80,8 @@ def answer_of(word, many):
 def sheet_of(copy, text):
     """The SHEET that is written as a text."""
     need_copy(copy)
-    if not isinstance(text, str):
-        raise BadText("no text")
-    # Parted by the blank alone, however many there are.
-    words = [word for word in text.split(" ") if word != ""]
+    need_any_text(text)
+    words = words_in(text)
     counts = answer_counts(copy)
     if len(words) != len(counts):
         raise BadSheet(None)

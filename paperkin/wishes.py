@@ -1,11 +1,10 @@
 """Wishes that papers meet or don't."""
 
 from paperkin.errors import BadKind, BadWish
-from paperkin.words import is_name, is_name_or_empty, is_number, is_whole, squeezed
+from paperkin.words import is_name, is_name_or_empty, is_number, is_whole, need_any_text, number_by, words_in
 
 WORDS = ("many", "toil", "marks", "rest", "kin", "with")
 WORDS_OF_THE_WHOLE = ("many", "toil", "marks")
-FIGURES = "0123456789"
 MOST = 999
 MOST_FIGURES = 3
 MOST_WISHES = 12
@@ -94,23 +93,13 @@ def are_numbers(thing, many):
     return all([one < other for one, other in zip(thing, thing[1:])])
 
 
-def number_of(word):
-    """The number that a word is by its figures, or None, by which a wish is refused."""
-    # More figures can only be a number beyond the bounds, or too long a one to be read.
-    if not 1 <= len(word) <= MOST_FIGURES:
-        return None
-    if not all([sign in FIGURES for sign in word]):
-        return None
-    if word[0] == "0" and word != "0":
-        return None
-    return int(word)
-
-
 def wish_of(text):
     """The wish that is written as a text."""
-    words = squeezed(text).split(" ")
+    need_any_text(text)
+    words = words_in(text)
     if len(words) == 3:
         words = [words[0], "", words[1], words[2]]
     if len(words) != 4:
         raise BadWish("word")
-    return Wish(words[0], words[1], number_of(words[2]), number_of(words[3]))
+    # What is no number, or has more figures than one within the bounds, is None, by which a wish is refused.
+    return Wish(words[0], words[1], number_by(words[2], MOST_FIGURES), number_by(words[3], MOST_FIGURES))

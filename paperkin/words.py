@@ -58,9 +58,28 @@ def need_day(thing):
         raise NoPlace(thing)
 
 
+def need_any_text(thing):
+    """Refuse what is no text of whatever signs."""
+    if not isinstance(thing, str):
+        raise BadText("no text")
+
+
+def words_in(text):
+    """The words of a text, however many blanks stand between them."""
+    # Parted by the blank alone: a line end or a tab is a sign like any other here.
+    return [word for word in text.split(" ") if word != ""]
+
+
 def squeezed(text):
     """A text without blanks at its ends, and one where several stand within."""
-    if not isinstance(text, str):
-        raise BadText("no text")
-    # Parted by the blank alone: a line end or a tab is a sign like any other here.
-    return " ".join([word for word in text.split(" ") if word != ""])
+    need_any_text(text)
+    return " ".join(words_in(text))
+
+
+def number_by(word, most):
+    """The number that a word is by at most so many figures, no 0 ahead but of 0; else None."""
+    if not 1 <= len(word) <= most or not word.isascii() or not word.isdigit():
+        return None
+    if word[0] == "0" and word != "0":
+        return None
+    return int(word)

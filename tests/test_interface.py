@@ -93,6 +93,7 @@ CLASSES = {
             "twin": "(self)",
         },
     },
+    "desk": {"Desk": {"__init__": "(self, bank=None)", "said": "(self, line)"}},
 }
 FUNCTIONS = {
     "words": {
@@ -165,6 +166,26 @@ FUNCTIONS = {
         "ranked": "(copies, sheets, way='plain')",
     },
     "sittings": {"need_sitting": "(thing)"},
+    "toils": {
+        "asked_by": "(sittings, name)",
+        "found_toil": "(sittings, name)",
+        "moved_toils": "(bank, sittings, steps=1)",
+        "move_toils": "(bank, sittings, steps=1)",
+    },
+    "joining": {
+        "are_twins": "(one, other)",
+        "twins_of": "(bank, other)",
+        "joined_banks": "(bank, other)",
+        "free_name": "(names, name)",
+    },
+    "banktext": {
+        "bank_text": "(bank)",
+        "bank_of": "(text)",
+        "paper_text": "(paper)",
+        "paper_of_text": "(text)",
+        "wishes_text": "(wishes)",
+        "wishes_of_text": "(text)",
+    },
 }
 # What a file must do without, also by way of the files that it needs.
 NOT_NEEDED = {"lotcheck": ("making", "lots"), "rowcheck": ("rows", "rowproof", "shelves")}
