@@ -194,7 +194,8 @@ class Sitting:
 
     def has_asked(self, name):
         """Whether the paper has a question of a name."""
-        return name in self.start.plain_names()
+        # The kind is asked for first: what is no text may call itself equal to a name.
+        return isinstance(name, str) and name in self.start.plain_names()
 
     def asked(self, name):
         """How many sheets ask a question of the paper that neither is out nor counts for all, and how many rightly."""

@@ -21,8 +21,7 @@ def need_sittings(things):
 def asked_by(sittings, name):
     """How many sheets of some sittings ask a question, and how many of these answer it rightly."""
     need_sittings(sittings)
-    # The kind is asked for first: what is no text may call itself equal to a name.
-    pairs = [each.asked(name) for each in sittings if isinstance(name, str) and each.has_asked(name)]
+    pairs = [each.asked(name) for each in sittings if each.has_asked(name)]
     if len(pairs) == 0:
         raise NoSuch(name)
     return sum([sheets for sheets, right in pairs]), sum([right for sheets, right in pairs])

@@ -187,7 +187,10 @@ class RefusedRows(Reading):
             for row in ("out x", "used 5", "question c m 5 1 -", "out", "used", "question", ""):
                 self.rows(*begun, row, bad=(len(begun) + 1, 1))
             self.rows(*begun, bad=(len(begun) + 1, 1))
-            self.rows(*WHOLE, *[row.replace(" b ", " c ") for row in begun], bad=(len(begun) + 4, 1))
+            behind = [row.replace(" b ", " c ") for row in begun]
+            self.rows(*WHOLE, *behind, bad=(len(begun) + 4, 1))
+            for row in ("out x", "used 5", "question d m 5 1 -"):
+                self.rows(*WHOLE, *behind, row, bad=(len(begun) + 4, 1))
 
     def test_out(self):
         for row in ("out", "out ", "out  x", "out x ", "out " + "x" * 31, "out a\tb"):

@@ -242,6 +242,18 @@ class Table(Lines):
         self.assertEqual(state(desk), before)
         self.led(("undo", "done"), ("undo", "gone"), desk=desk)
 
+    def test_names_and_reasons_that_are_words_of_lines(self):
+        desk = self.led(("day 5", "done"))
+        for word in ("undo", "load", "join", "show", "day", "wish", "drop", "in", "out"):
+            called = "nothing called '" + word + "'"
+            self.led(
+                ("in " + word, called), ("drop " + word, called), ("use " + word + " 5", called), ("out " + word + " x", called),
+                ("sums " + word, "bad paper"), ("copy 0 " + word, "bad paper"), ("key 0 " + word, "bad paper"),
+                ("wish " + word, "bad wish word"), ("paper " + word, "bad line"), ("in " + word + "\nx", "bad line"),
+                ("out adds " + word + "\n" + TEXT, "bad line"), ("out adds " + word, "done"), desk=desk,
+            )
+        self.assertEqual(bank_of(str(desk)).outs()[0], ("adds", "out"))
+
     def test_bad_line_ahead_of_all_else(self):
         self.led(
             ("use nobody 05", "bad line"), ("unwish 05", "bad line"), ("copy 05 x", "bad line"), ("paper 015", "bad line"),

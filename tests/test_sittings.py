@@ -18,7 +18,7 @@ WAYS = ("plain", "less", "whole")
 NO_VERDICTS = strangers() + [
     (), [], ["out"], ["all"], ["right", 0], ("out", 0), ("out", "out"), ("all", 0), ("right",), ("right", 0, 0),
     ("right", 3), ("right", -1), ("right", True), ("right", False), ("right", "0"), ("right", None), ("right", (0,)),
-    ("right", [0]), ("right", 10 ** 3999), ("Out",), ("out ",), ("none",), ("",), (None,), (0,), ("wrong",), (("out",),),
+    ("right", [0]), ("right", 10 ** 3999), ("Out",), ("out ",), ("none",), ("none", 0), ("", 0), ("wrong", 1), ("all", "all"), ("",), (None,), (0,), ("wrong",), (("out",),),
     "out", "all", {"out"}, {"right": 0}, (["out"],), (b"out",), Alike(), (Alike(),), ("right", Alike()), (Alike(), 0),
 ]
 
@@ -503,6 +503,16 @@ class Equal(Case):
             other.handed(person)
         self.assertEqual([one.copy_of("ann").number, other.copy_of("ann").number], [0, 2])
         self.assertEqual(one, other)
+
+    def test_other_questions_that_nobody_has_copies_of(self):
+        for other in (
+            a_question("d", "earth", marks=9, right=0, kin="k"), a_question("d", "earth", marks=8, right=0),
+            a_question("d", "earth", marks=9, right=1),
+        ):
+            bank = a_bank()
+            bank.put(other)
+            self.assertNotEqual(Sitting(bank, PAPER, 7), a_sitting())
+        self.assertNotEqual(Sitting(a_bank(), PAPER[:3], 7), a_sitting())
 
     def test_whatever_the_bank_has_besides(self):
         bank = a_bank()
