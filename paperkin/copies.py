@@ -25,7 +25,12 @@ class Copy:
         self.number = number
 
     def __eq__(self, other):
-        return isinstance(other, Copy) and self.questions_told() == other.questions_told()
+        if not isinstance(other, Copy):
+            return False
+        # Most copies are told alike or unlike by less than all questions, which must be turned first.
+        if self.number == other.number and self.plain == other.plain:
+            return True
+        return self.told_names() == other.told_names() and self.questions_told() == other.questions_told()
 
     def __len__(self):
         return len(self.plain)
@@ -46,9 +51,14 @@ class Copy:
         names = self.plain_names()
         return names[first:] + names[:first]
 
+    def origin_of(self, place):
+        """What origin tells of a place that is known to be one."""
+        at = (place + self.number) % len(self.plain)
+        return at, self.number * (place + 1) % len(self.plain[at].answers)
+
     def origins(self):
         """For each place what origin tells of it."""
-        return [self.origin(place) for place in range(len(self.plain))]
+        return [self.origin_of(place) for place in range(len(self.plain))]
 
     def questions_told(self):
         """The questions in the copy's order, turned."""
@@ -62,8 +72,7 @@ class Copy:
     def origin(self, place):
         """The place in the paper of what stands at a place, and by how many its answers are turned."""
         self.need_place(place)
-        at = (place + self.number) % len(self.plain)
-        return at, self.number * (place + 1) % len(self.plain[at])
+        return self.origin_of(place)
 
     def question_at(self, place):
         """The question that stands at a place, turned."""

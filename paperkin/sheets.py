@@ -9,7 +9,14 @@ NOTHING = "-"
 
 def answer_counts(copy):
     """How many answers there are at each place of a copy."""
-    return [len(copy.plain[at]) for at, turn in copy.origins()]
+    first = copy.number % len(copy.plain)
+    counts = plain_counts(copy)
+    return counts[first:] + counts[:first]
+
+
+def plain_counts(copy):
+    """How many answers there are at each place of a paper."""
+    return [len(question.answers) for question in copy.plain]
 
 
 def need_answers(sheet, counts):
@@ -30,18 +37,20 @@ def need_sheet(copy, sheet):
 def led_back(copy, sheet):
     """The SHEET of number 0 that gives each question the same answer's text."""
     need_sheet(copy, sheet)
-    led = [None] * len(copy)
+    counts = plain_counts(copy)
+    led = [None] * len(counts)
     for answer, (at, turn) in zip(sheet, copy.origins()):
         if answer is not None:
-            led[at] = (answer + turn) % len(copy.plain[at])
+            led[at] = (answer + turn) % counts[at]
     return tuple(led)
 
 
 def led_on(copy, sheet):
     """The SHEET of a copy that gives each question the same answer's text as one of number 0."""
     need_copy(copy)
-    need_answers(sheet, [len(question) for question in copy.plain])
-    return tuple([turned_on(sheet[at], turn, len(copy.plain[at])) for at, turn in copy.origins()])
+    counts = plain_counts(copy)
+    need_answers(sheet, counts)
+    return tuple([turned_on(sheet[at], turn, counts[at]) for at, turn in copy.origins()])
 
 
 def turned_on(answer, turn, many):

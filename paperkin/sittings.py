@@ -3,7 +3,7 @@
 from paperkin.banks import Bank
 from paperkin.copies import Copy
 from paperkin.errors import BadKind, BadWish, Gone, NoPlace, NoSuch, Twice
-from paperkin.marking import found_right, gains_by, mark_order, need_way, together
+from paperkin.marking import gains_by, mark_order, need_way, together
 from paperkin.papers import need_ready
 from paperkin.sheets import led_back, need_sheet
 from paperkin.words import is_whole, need_day, need_name
@@ -21,13 +21,19 @@ def is_verdict(thing, question):
     return thing[0] == "right" and len(thing) == 2 and is_whole(thing[1], 0, len(question) - 1)
 
 
-def found_under(question, answer, verdict):
-    """Whether an answer is right by the VERDICT that holds, None where none does; None of no answer."""
+def right_under(question, verdict):
+    """The right answer of a question by the VERDICT that holds, None where none does; None where all are right."""
     if verdict is None:
-        return found_right(question, answer)
-    if verdict[0] == "all":
-        return True
-    return None if answer is None else answer == verdict[1]
+        return question.right
+    return None if verdict == ("all",) else verdict[1]
+
+
+def found_by(answers, keys):
+    """Whether the answers at some places are right; None of no answer."""
+    # Where all are right, it is right to give none, too.
+    return [
+        True if right is None else (None if answers[at] is None else answers[at] == right) for at, right in keys
+    ]
 
 
 class Sitting:
@@ -109,22 +115,21 @@ class Sitting:
         self.lay_sheet(person, sheet)
         return elder, self.marks_by(person)
 
-    def standing(self, judged):
-        """Of each question its place in the paper, itself and the VERDICT that holds, if these ones did."""
-        stands = [(at, question, judged.get(question.name)) for at, question in enumerate(self.start.plain)]
+    def marks_of_some(self, persons, judged):
+        """The marks of some who gave sheets, as they were if these VERDICTS held."""
         # What is out is as if the paper hadn't it: it is left out ahead of all else.
-        return [(at, question, verdict) for at, question, verdict in stands if verdict != ("out",)]
-
-    def marks_from(self, stands, person):
-        """The marks of one who gave a sheet, by what is standing."""
-        answers = self.backs[person]
-        found = [found_under(question, answers[at], verdict) for at, question, verdict in stands]
-        return together(gains_by([question for at, question, verdict in stands], found, self.way))
+        places = [at for at, question in enumerate(self.start.plain) if judged.get(question.name) != ("out",)]
+        questions = [self.start.plain[at] for at in places]
+        rights = [right_under(question, judged.get(question.name)) for question in questions]
+        keys = list(zip(places, rights))
+        told = {}
+        for person in persons:
+            told[person] = together(gains_by(questions, found_by(self.backs[person], keys), self.way))
+        return told
 
     def marks_under(self, judged):
         """The marks of all who gave sheets, by rising names, as they were if these VERDICTS held."""
-        stands = self.standing(judged)
-        return {person: self.marks_from(stands, person) for person in sorted(list(self.backs))}
+        return self.marks_of_some(sorted(list(self.backs)), judged)
 
     def if_wrong(self, name, verdict):
         """The marks that a VERDICT of a question would move."""
@@ -175,7 +180,7 @@ class Sitting:
         self.need_copy_of(person)
         if person not in self.sheets:
             return None
-        return self.marks_from(self.standing(self.judged), person)
+        return self.marks_of_some([person], self.judged)[person]
 
     def persons(self):
         """All who have copies, rising."""
@@ -203,8 +208,8 @@ class Sitting:
         if verdict in (("out",), ("all",)):
             return 0, 0
         at = self.start.place_of(name)
-        question = self.start.plain[at]
-        found = [found_under(question, self.backs[person][at], verdict) for person in self.backs]
+        right = right_under(self.start.plain[at], verdict)
+        found = [self.backs[person][at] == right for person in self.backs]
         return len(found), found.count(True)
 
     def twin(self):

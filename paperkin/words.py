@@ -32,18 +32,14 @@ def is_name_or_empty(thing):
     return is_name(thing) or (isinstance(thing, str) and thing == "")
 
 
-def is_text_sign(sign):
-    """Whether a sign may stand in a TEXT."""
-    return " " <= sign <= "~" and ord(sign) != PERCENT
-
-
 def is_text(thing):
     """Whether a thing is a TEXT."""
     if not isinstance(thing, str) or not 1 <= len(thing) <= MOST_SIGNS:
         return False
     if thing[0] == " " or thing[-1] == " ":
         return False
-    return all([is_text_sign(sign) for sign in thing])
+    # Of the signs below the 128th just those from the blank to the last one can be printed.
+    return thing.isascii() and thing.isprintable() and all([ord(sign) != PERCENT for sign in thing])
 
 
 def need_name(thing):

@@ -16,7 +16,7 @@ ArithmeticError OverflowError RuntimeError NotImplementedError AttributeError St
 ALLOWED_METHODS = set("""
 append clear copy count endswith extend find get index insert isalnum isalpha isdigit islower isspace isupper items join
 keys ljust lower lstrip partition pop remove replace reverse rfind rjust rpartition rsplit rstrip setdefault split
-splitlines startswith strip update upper values zfill bit_length add discard isascii removeprefix
+splitlines startswith strip update upper values zfill bit_length add discard isascii isprintable
 """.split())
 ALLOWED_SPECIAL = set("__init__ __eq__ __repr__ __str__ __len__".split())
 BARRED_WORDS = """
